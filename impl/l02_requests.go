@@ -23,11 +23,12 @@ func RequestText(args []string) string {
 }
 
 func argsOk(args []string) bool {
-	if len(args) > MaxArgs {
-		return false
-	}
-	for _, arg := range args {
-		if len(arg) > MaxBulk {
+	return len(args) <= MaxArgs && bulksOk(args)
+}
+
+func bulksOk(texts []string) bool {
+	for _, text := range texts {
+		if len(text) > MaxBulk {
 			return false
 		}
 	}
