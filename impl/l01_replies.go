@@ -102,11 +102,15 @@ func wordsOk(s string) bool {
 		return false
 	}
 	for _, b := range []byte(s) {
-		if b < 32 || b > 126 {
+		if !isPlain(b) {
 			return false
 		}
 	}
 	return true
+}
+
+func isPlain(b byte) bool {
+	return b >= 32 && b <= 126
 }
 
 func numberOk(n int64) bool {
